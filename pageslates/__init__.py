@@ -1,0 +1,1 @@
+"""Slates under constraints: see slates.answers."""
