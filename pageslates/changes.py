@@ -99,7 +99,7 @@ def pin(page, position, candidate):
         return [NO_CANDIDATE]
     if not page.has_position(position):
         return [OUTSIDE_LIMITS]
-    if candidate in page.pins and page.pins[position] != candidate:
+    if page.is_pinned_elsewhere(candidate, position):
         return [ALREADY_THERE]
     page.pins[position] = candidate
     return [0]

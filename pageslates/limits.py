@@ -19,6 +19,12 @@ GREATEST_QUOTA = 5
 GREATEST_LIMIT = 5
 GREATEST_SPACING = 5
 GREATEST_DIVERSITY = 100000
+MOST_BEST = 5
+LEAST_PRICE = -1000000000
+GREATEST_PRICE = 1000000000
+GREATEST_SIZE = 1000000
+MOST_ROUNDS = 20
+GREATEST_KIND = 5
 
 
 def weights_fit(weights):
@@ -55,3 +61,15 @@ def quota_fits(group, lower, upper):
 def creators_fit(limit, spacing):
     """Tell whether the limit of a creator and the spacing are inside their limits."""
     return 1 <= limit <= GREATEST_LIMIT and 1 <= spacing <= GREATEST_SPACING
+
+
+def prices_fit(prices):
+    """Tell whether these are prices, one for each group."""
+    if len(prices) != GROUP_COUNT:
+        return False
+    return all([LEAST_PRICE <= price <= GREATEST_PRICE for price in prices])
+
+
+def tuning_fits(size, rounds):
+    """Tell whether prices can be tuned with this step size in so many rounds."""
+    return 1 <= size <= GREATEST_SIZE and rounds <= MOST_ROUNDS

@@ -1,7 +1,7 @@
-"""The calls 11 to 13, which ask about a slate or a beginning."""
+"""The calls 11 to 13, 21, 25 and 26, which ask about a slate, a beginning, a candidate or the page."""
 
-from pageslates.limits import NO_CANDIDATE, OUTSIDE_LIMITS
-from pageslates.reckoning import coverage_of, relevance_of, value_of
+from pageslates.limits import GROUP_COUNT, NO_CANDIDATE, OUTSIDE_LIMITS
+from pageslates.reckoning import coverage_of, reduced, relevance_of, value_of
 from pageslates.violations import first_violation, is_possible
 
 
@@ -35,12 +35,28 @@ def gain(page, candidate, beginning):
     return [more_value, more_topics, int(is_possible(page, longer))]
 
 
-def ask(page, number, numbers, row):
-    """Answer the call of this number."""
-    if number == 11:
-        return value(page, row)
-    if number == 12:
-        return violation(page, row)
-    if number == 13:
-        return gain(page, numbers[0], row)
-    raise NotImplementedError(f"call {number} is not built yet")
+def exposure(page, slate):
+    """Tell for each group which share of all weights its candidates have."""
+    if not page.is_slate(slate):
+        return [OUTSIDE_LIMITS]
+    weights = [0 for group in range(GROUP_COUNT)]
+    for weight, candidate in zip(page.weights, slate):
+        weights[page.candidates[candidate].group] += weight
+    told = [GROUP_COUNT]
+    for weight in weights:
+        told.extend(reduced(weight, sum(page.weights)))
+    return told
+
+
+def candidate_info(page, candidate):
+    """Tell the data of a candidate."""
+    if not page.has_candidate(candidate):
+        return [NO_CANDIDATE]
+    asked = page.candidates[candidate]
+    return [asked.score, asked.group, asked.creator, asked.age, len(asked.topics)] + asked.topics
+
+
+def status(page):
+    """Count positions, candidates, forbidden pairs and pins, and tell the diversity weight."""
+    pinned = len([candidate for candidate in page.pins if candidate is not None])
+    return [len(page.weights), len(page.candidates), len(page.forbidden), pinned, page.diversity]

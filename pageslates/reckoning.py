@@ -1,4 +1,4 @@
-"""What a slate or a beginning is worth."""
+"""What a slate or a beginning is worth, and how a share of it is written."""
 
 
 def relevance_of(page, listed):
@@ -18,3 +18,14 @@ def coverage_of(page, listed):
 def value_of(page, listed):
     """Add the relevance and the weighted coverage."""
     return relevance_of(page, listed) + page.diversity * coverage_of(page, listed)
+
+
+def reduced(part, whole):
+    """Write a fraction in its lowest terms."""
+    divisor = whole
+    rest = part
+    while rest > 0:
+        remainder = divisor % rest
+        divisor = rest
+        rest = remainder
+    return [part // divisor, whole // divisor]

@@ -1,10 +1,10 @@
 """The function that answers a list of calls."""
 
+from pageslates.asking import ask
 from pageslates.changes import change
 from pageslates.limits import NO_PAGE, OUTSIDE_LIMITS, weights_fit
-from pageslates.state import Page
-from pageslates.questions import ask
 from pageslates.reading import split_calls
+from pageslates.state import Page
 
 CREATE = 0
 LAST_CHANGE = 10

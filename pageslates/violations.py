@@ -96,6 +96,15 @@ BEGINNING_CHECKS = (
     forbidden_violation,
 )
 
+# For these the order of the candidates doesn't matter.
+MEMBER_CHECKS = (
+    upper_quota_violation,
+    lower_quota_violation,
+    limit_violation,
+    forbidden_violation,
+    freshness_violation,
+)
+
 
 def first_violation(page, slate):
     """Tell the first violation of a slate, or an empty list if it is feasible."""
@@ -104,6 +113,19 @@ def first_violation(page, slate):
         if found:
             return found
     return []
+
+
+def is_feasible(page, slate):
+    """Tell whether a slate has no violation."""
+    return not first_violation(page, slate)
+
+
+def members_fit(page, listed):
+    """Tell whether the candidates of a slate, in whatever order, keep all but pins and spacing."""
+    for check in MEMBER_CHECKS:
+        if check(page, listed):
+            return False
+    return True
 
 
 def is_possible(page, beginning):

@@ -9,7 +9,10 @@ EVERY_CALL = [
     *page([4, 2], add(10, 0, 1, 3, [0, 1]), add(9, 0, 2, 8, [0])),
     ("set_score", 0, 7), ("set_quota", 1, 0, 4), ("set_creators", 4, 2), ("set_freshness", 9, 1),
     ("set_diversity", 6), ("forbid", 0, 1), ("allow", 0, 1), ("pin", 0, 1), ("value", [1, 0]),
-    ("violation", [1, 0]), ("gain", 0, [1]), ("unpin", 0), ("create", []), ("create", [3]), add(),
+    ("violation", [1, 0]), ("gain", 0, [1]), ("unpin", 0), ("greedy",), ("improve", [1, 0]), ("best", 5),
+    ("count_feasible",), ("bound", [1, -1, 0, 0, 0, 0]), ("tune", 1, 20, [9, 0, -9, 0, 4, 0]), ("gap", [0] * 6),
+    ("exposure", [0, 1]), ("cover", 9), ("cost_of", 5), ("worth", 1), ("candidate_info", 0), ("status",),
+    ("best", 0), ("create", []), ("create", [3]), add(),
 ]
 
 
@@ -54,6 +57,64 @@ class Written(unittest.TestCase):
             1, -22,
         ]
         self.assertEqual(answers(calls), expected)
+
+    def test_calls_14_to_26_number_by_number(self):
+        calls = [
+            0, 2, 4, 2,
+            1, 10, 0, 1, 3, 2, 0, 1,
+            1, 9, 1, 2, 8, 1, 0,
+            1, 1, 0, 2, 8, 0,
+            6, 3,
+            14,
+            15, 2, 1, 0,
+            16, 2,
+            17,
+            18, 6, -1, 0, 0, 0, 0, 2,
+            19, 5, 1, 6, 0, 10, 0, 0, -10, 0,
+            20, 6, 0, 0, 0, 0, 0, 0,
+            21, 2, 1, 0,
+            22, 2,
+            23, 5,
+            24, 0,
+            25, 0,
+            25, 2,
+            26,
+            16, 6,
+            20, 1, 7,
+            21, 0,
+        ]
+        expected = [
+            1, 0,
+            1, 0,
+            1, 1,
+            1, 2,
+            1, 0,
+            5, 2, 1, 64, 0, 1,
+            4, 1, 64, 0, 1,
+            7, 2, 64, 0, 1, 62, 1, 0,
+            1, 6,
+            5, 0, 78, 62, 10, 2,
+            8, 0, 91, 0, 5, 0, 0, -10, 0,
+            4, 0, 64, 66, 2,
+            13, 6, 1, 3, 2, 3, 0, 1, 0, 1, 0, 1, 0, 1,
+            4, 2, 2, 0, 1,
+            3, 64, 64, 0,
+            3, 64, 42, 65,
+            7, 10, 0, 1, 3, 2, 0, 1,
+            5, 1, 0, 2, 8, 0,
+            5, 2, 3, 0, 0, 3,
+            1, -22,
+            1, -22,
+            1, -22,
+        ]
+        self.assertEqual(answers(calls), expected)
+
+    def test_lowest_and_greatest_prices(self):
+        for price, refused in ((-2147483648, True), (-1000000000, False), (1000000000, False), (2147483647, True)):
+            bound = max(0, 30 * price)
+            expected = [1, -22] if refused else [5, 0, bound, 0, bound, 0]
+            told = answers([0, 1, 1, 18, 6] + [price] * 6 + [26])
+            self.assertEqual(told, [1, 0, *expected, 5, 1, 0, 0, 0, 0])
 
     def test_violation_has_three_numbers(self):
         self.assertEqual(answers([0, 1, 5, 1, 1, 2, 3, 4, 0, 3, 2, 0, 0, 12, 1, 0])[-4:], [3, 2, 2, 0])

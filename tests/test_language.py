@@ -119,6 +119,32 @@ class Language(unittest.TestCase):
             if isinstance(node, ast.Attribute):
                 self.assertNotIn(node.attr, UNWANTED_NAMES, place)
 
+    def test_locals_are_not_called_like_imports_or_classes(self):
+        for name, _, tree in sources():
+            taken = {alias.asname or alias.name for node in ast.walk(tree) if isinstance(node, ast.ImportFrom)
+                     for alias in node.names}
+            taken |= {node.name for node in ast.walk(tree) if isinstance(node, ast.ClassDef)}
+            for function in ast.walk(tree):
+                if isinstance(function, (ast.FunctionDef, ast.Lambda)):
+                    own = {node.arg for node in ast.walk(function) if isinstance(node, ast.arg)}
+                    own |= {node.id for node in ast.walk(function)
+                            if isinstance(node, ast.Name) and isinstance(node.ctx, ast.Store)}
+                    self.assertEqual(own & taken, set(), name)
+
+    def test_functions_of_the_interface_stand_once(self):
+        places = [name for name, _, tree in sources() for node in tree.body
+                  if isinstance(node, (ast.FunctionDef, ast.ClassDef)) and node.name == "answers"]
+        self.assertEqual(places, ["slates.py"])
+
+    def test_no_two_files_draw_from_one_another(self):
+        drawn = {name[:-3]: {node.module.split(".")[1] for node in tree.body if isinstance(node, ast.ImportFrom)}
+                 for name, _, tree in sources()}
+        while drawn:
+            free = [name for name, others in drawn.items() if not others & set(drawn)]
+            self.assertNotEqual(free, [], drawn)
+            for name in free:
+                drawn.pop(name)
+
 
 if __name__ == "__main__":
     unittest.main()

@@ -1,97 +1,9 @@
 """Many small pages, compared with a reading of the document that is written apart from the program."""
 
 import unittest
-from itertools import combinations, permutations
+from itertools import permutations
 
-from helper import add, page, run, slates_of
-
-
-class Numbers:
-    """Numbers that look mixed, and are the same each time."""
-
-    def __init__(self, seed):
-        self.state = seed
-
-    def below(self, end):
-        self.state = (self.state * 6364136223846793005 + 1442695040888963407) & (2 ** 64 - 1)
-        return (self.state >> 33) % end
-
-
-class Reading:
-    """A page as the document's terms tell it."""
-
-    def __init__(self, seed):
-        numbers = Numbers(seed)
-        positions = 1 + numbers.below(4)
-        count = positions + numbers.below(6 - positions)
-        self.weights = sorted((1 + numbers.below(9) for _ in range(positions)), reverse=True)
-        self.candidates = [
-            (numbers.below(20), numbers.below(3), numbers.below(3), numbers.below(4),
-             [topic for topic in range(12) if numbers.below(4) == 0])
-            for _ in range(count)
-        ]
-        self.quotas = {group: (0, 5) for group in range(6)}
-        for group in range(numbers.below(3)):
-            lower = numbers.below(2)
-            self.quotas[group] = (lower, lower + 1 + numbers.below(2))
-        self.limit = 1 + numbers.below(4)
-        self.spacing = 1 + numbers.below(3)
-        self.fresh = (numbers.below(4), numbers.below(positions + 1) // 2)
-        self.diversity = numbers.below(10)
-        pairs = list(combinations(range(count), 2))
-        self.forbidden = []
-        for _ in range(min(len(pairs), numbers.below(4))):
-            self.forbidden.append(pairs.pop(numbers.below(len(pairs))))
-        self.pins = {}
-        if numbers.below(3) == 0:
-            self.pins[numbers.below(positions)] = numbers.below(count)
-
-    def calls(self):
-        calls = page(self.weights, *[add(*candidate) for candidate in self.candidates])
-        calls += [("set_quota", group, *quota) for group, quota in self.quotas.items()]
-        calls += [("set_creators", self.limit, self.spacing), ("set_freshness", *self.fresh)]
-        calls += [("set_diversity", self.diversity)]
-        calls += [("forbid", greater, smaller) for smaller, greater in self.forbidden]
-        return calls + [("pin", position, candidate) for position, candidate in self.pins.items()]
-
-    def told(self, listed, part):
-        return [self.candidates[candidate][part] for candidate in listed]
-
-    def value(self, listed):
-        relevance = sum(map(lambda weight, score: weight * score, self.weights[:len(listed)], self.told(listed, 0)))
-        coverage = len(set(sum(self.told(listed, 4), [])))
-        return [relevance + self.diversity * coverage, relevance, coverage]
-
-    def violations(self, listed):
-        """List all violations of the table, each kind in its own order."""
-        groups, creators = self.told(listed, 1), self.told(listed, 2)
-        places = range(len(listed))
-        found = [[1, place, 0] for place in places if self.pins.get(place, listed[place]) != listed[place]]
-        found += [[2, group, 0] for group in range(6) if groups.count(group) > self.quotas[group][1]]
-        found += [[3, group, 0] for group in range(6) if groups.count(group) < self.quotas[group][0]]
-        found += [[4, creator, 0] for creator in creators if creators.count(creator) > self.limit]
-        found += [[5, i, j] for i, j in combinations(places, 2)
-                  if creators[i] == creators[j] and j - i < self.spacing]
-        found += [[6, *pair] for pair in self.forbidden if set(pair) <= set(listed)]
-        fresh = sum(age <= self.fresh[0] for age in self.told(listed, 3))
-        return found + ([[7, fresh, 0]] if fresh < self.fresh[1] else [])
-
-    def is_possible(self, listed):
-        return not any(kind in (1, 2, 4, 5, 6) for kind, _, _ in self.violations(listed))
-
-    def gain(self, candidate, listed):
-        longer = [*listed, candidate]
-        before, after = self.value(listed), self.value(longer)
-        return [after[0] - before[0], after[2] - before[2], int(self.is_possible(longer))]
-
-
-def ask(calls, questions):
-    """Ask in as many lists as are needed, none with more than 60 calls."""
-    answered = []
-    room = 60 - len(calls)
-    for start in range(0, len(questions), room):
-        answered += run([*calls, *questions[start:start + room]])[len(calls):]
-    return answered
+from helper import Reading, ask, slates_of
 
 
 class PlainReading(unittest.TestCase):

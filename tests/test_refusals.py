@@ -16,6 +16,8 @@ WRONG = (
     add(score=10001), ("set_score", 9, 10001), ("set_quota", 6, 2, 1), ("set_creators", 0, 6),
     ("set_freshness", 10001, 6), ("set_diversity", 100001), ("forbid", 9, 9), ("allow", 9, 9), ("pin", 5, 9),
     ("unpin", GREATEST), ("value", []), ("violation", [0] * 12), ("gain", GREATEST, [0] * 12),
+    ("improve", [0, 0]), ("best", 0), ("bound", []), ("tune", 0, 21, [0] * 5), ("gap", [0] * 7), ("exposure", []),
+    ("cover", GREATEST), ("cost_of", 6), ("worth", 9), ("candidate_info", 9),
 )
 
 # Every part of the page differs from what a new page has, and some slates are feasible all the same.
@@ -37,9 +39,30 @@ REFUSED = (
     (("allow", 4, 0), -2), (("allow", 0, 2), -33), (("allow", 1, 1), -33), (("pin", 0, 4), -2),
     (("pin", 2, 0), -22), (("pin", 0, 3), -17), (("unpin", 2), -22), (("unpin", 0), -33),
     (("value", [0]), -22), (("violation", [0, 0]), -22), (("gain", 4, []), -2), (("gain", 0, [0]), -22),
+    (("improve", []), -22), (("improve", [1, 1]), -22), (("improve", [0, 3]), -22), (("best", 0), -22),
+    (("best", 6), -22), (("bound", [0] * 5), -22), (("bound", [1000000001] * 6), -22), (("tune", 0, 1, [0] * 6), -22),
+    (("tune", 1, 21, [0] * 6), -22), (("tune", 1000001, 1, [0] * 6), -22), (("tune", 1, 1, [0] * 7), -22),
+    (("gap", [-1000000001] * 6), -22), (("gap", []), -22), (("exposure", [0]), -22), (("exposure", [0, 4]), -22),
+    (("cost_of", 6), -22), (("worth", 4), -2), (("candidate_info", 4), -2),
+)
+
+# What is refused besides where no slate is feasible.
+REFUSED_WITHOUT_SLATES = (
+    (("improve", [2, 3]), -22), (("best", 1), -33), (("best", 5), -33), (("gap", [0] * 6), -33),
+    *[(("cost_of", kind), -33) for kind in range(6)], *[(("worth", candidate), -33) for candidate in range(4)],
 )
 
 ANSWERED = (("value", [1, 0]), ("violation", [0, 2]), ("gain", 1, [0]), ("gain", 3, []))
+
+# The calls 14 to 26, each of them answered on the filled page.
+COMPOSING = (
+    ("greedy",), ("improve", [2, 3]), ("improve", [1, 3]), ("best", 1), ("best", 5), ("count_feasible",),
+    ("bound", [0] * 6), ("bound", [9, -9, 4, 0, 1, -1]), ("tune", 5, 3, [0] * 6),
+    ("tune", 1, 20, [30, -30, 0, 7, 0, 0]),
+    ("gap", [0] * 6), ("gap", [3] * 6), ("exposure", [1, 0]), ("exposure", [2, 3]), ("cover", 0), ("cover", 4),
+    ("cover", GREATEST), *[("cost_of", kind) for kind in range(6)], *[("worth", candidate) for candidate in range(4)],
+    *[("candidate_info", candidate) for candidate in range(4)], ("status",),
+)
 
 PAIRS = [(first, second) for second in range(4) for first in range(second)]
 
@@ -77,13 +100,20 @@ LOOKS = {
 }
 
 
+# These see all of the page at once, so they count where nothing is to change.
+WHOLE_LOOKS = {
+    **LOOKS,
+    "composed": ([], list(COMPOSING)),
+    "composed without constraints": (FREE, list(COMPOSING)[:30]),
+}
+
 PAIR_LOOKS = ("forbidden pairs", "violations", "without pins", "gains", "effect of the pairs")
 
 
-def look(calls):
+def look(calls, looks=LOOKS):
     """Tell what is seen of the page behind these calls."""
     seen = {}
-    for name, (preparing, looking) in LOOKS.items():
+    for name, (preparing, looking) in looks.items():
         whole = [*calls, *preparing, *looking]
         assert len(whole) <= 60, name
         seen[name] = run(whole)[-len(looking):]
@@ -106,11 +136,20 @@ class NoPage(unittest.TestCase):
 
 class NothingChanges(unittest.TestCase):
     def test_refused_calls(self):
-        before = look(FILLED)
+        before = look(FILLED, WHOLE_LOOKS)
         for call, code in REFUSED:
             with self.subTest(call=call):
                 self.assertEqual(last([*FILLED, call]), [code])
-                self.assertEqual(look([*FILLED, call]), before)
+                self.assertEqual(look([*FILLED, call], WHOLE_LOOKS), before)
+
+    def test_refused_calls_where_no_slate_is_feasible(self):
+        barren = [*FILLED, ("set_quota", 5, 1, 1)]
+        before = look(barren, WHOLE_LOOKS)
+        self.assertEqual(last([*barren, ("count_feasible",)]), [0])
+        for call, code in (*REFUSED_WITHOUT_SLATES, *REFUSED):
+            with self.subTest(call=call):
+                self.assertEqual(last([*barren, call]), [code])
+                self.assertEqual(look([*barren, call], WHOLE_LOOKS), before)
 
     def test_tenth_candidate(self):
         full = [*FILLED, *[add(5)] * 5]
@@ -119,7 +158,13 @@ class NothingChanges(unittest.TestCase):
         self.assertEqual(look([*full, add(6, 1, 1, 1, [1])]), before)
 
     def test_all_refused_calls_one_behind_another(self):
-        calls = [*FILLED, *[call for call, _ in REFUSED]]
+        # A list has room for half of them at a time.
+        half = len(REFUSED) // 2
+        for refused in (REFUSED[:half], REFUSED[half:]):
+            self.check_one_behind_another([*FILLED, *[call for call, _ in refused]])
+
+    def check_one_behind_another(self, calls):
+        self.assertLessEqual(len(calls), 59)
         for position in (0, 1):
             self.assertEqual(last([*calls, ("unpin", position)]), last([*FILLED, ("unpin", position)]))
         for slate in slates_of(4, 2):
@@ -127,11 +172,19 @@ class NothingChanges(unittest.TestCase):
                 self.assertEqual(last([*calls, (call, slate)]), last([*FILLED, (call, slate)]))
 
     def test_questions(self):
-        before = look(FILLED)
-        for call in ANSWERED:
+        before = look(FILLED, WHOLE_LOOKS)
+        for call in (*ANSWERED, *COMPOSING):
             with self.subTest(call=call):
                 self.assertGreaterEqual(last([*FILLED, call])[0], 0)
-                self.assertEqual(look([*FILLED, call]), before)
+                self.assertEqual(look([*FILLED, call], WHOLE_LOOKS), before)
+
+    def test_questions_one_behind_another(self):
+        alone = [last([*FILLED, call]) for call in COMPOSING]
+        self.assertEqual(run([*FILLED, *COMPOSING])[len(FILLED):], alone)
+        self.assertEqual(run([*FILLED, *reversed(COMPOSING)])[len(FILLED):], alone[::-1])
+        for constraint in (("unpin", 1), ("allow", 1, 2), ("set_quota", 1, 0, 5), ("set_creators", 5, 1)):
+            changed = [*FILLED, *COMPOSING, constraint, ("best", 5)]
+            self.assertEqual(last(changed), last([*FILLED, constraint, ("best", 5)]))
 
 
 class JustWhatTheySay(unittest.TestCase):
