@@ -91,7 +91,7 @@ class MostChanges(unittest.TestCase):
         self.assertEqual(composing.MOST_CHANGES, 1000)
 
     def test_it_stops_there(self):
-        # No small page takes a thousand changes, so fewer are allowed here.
+        # A page that takes a thousand changes isn't at hand, so fewer are allowed here.
         slates = ([0, 1], [1, 0], [2, 0], [3, 0], [3, 1], [3, 2], [3, 2])
         for most, slate in enumerate(slates):
             with mock.patch.object(composing, "MOST_CHANGES", most):
